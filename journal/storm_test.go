@@ -526,9 +526,9 @@ func TestWhateverComesIn(t *testing.T) { // P1, R1: two may be dead, blocks bad,
 					t.Fatalf("Read = %v, %d", b, e)
 				}
 			default:
-				before := j.Used()
-				if e := j.Commit(); e == api.OK && j.Used() < before && j.Used() > 26 {
-					t.Fatal("a Commit takes too much")
+				e := j.Commit()
+				if j.Used() > x.length-1 || e == api.OK && len(j.Running()) > 0 {
+					t.Fatalf("Commit: %d; Used = %d, Running = %v", e, j.Used(), j.Running())
 				}
 			}
 		}
